@@ -1,1 +1,1 @@
-"""Cells of fifty-three bytes: found in a stream, mended, and put together to messages."""
+"""Cells of fifty-three bytes: found in a stream, mended, put together to messages, and made of messages."""

@@ -5,7 +5,11 @@ from cellstream.stream import Stream
 BEGIN = 0
 OPEN_WAY = 1
 CLOSE_WAY = 2
-TAKE_BYTES = 3
+BYTES_COME = 3
+TAKE = 4
+SEND = 5
+OUTPUT = 6
+TOLD = 7
 
 
 class UnknownCall(ValueError):
@@ -54,6 +58,13 @@ def answer_bytes(stream, reader):
     return [stream.take_bytes(now, octets)]
 
 
+def answer_send(stream, reader):
+    path = reader.read_number()
+    channel = reader.read_number()
+    message = reader.read_row()
+    return [stream.send_message(path, channel, message)]
+
+
 def answer_call(stream, reader):
     """The numbers that the next call answers."""
     call = reader.read_number()
@@ -63,8 +74,16 @@ def answer_call(stream, reader):
         return answer_open(stream, reader)
     if call == CLOSE_WAY:
         return answer_close(stream, reader)
-    if call == TAKE_BYTES:
+    if call == BYTES_COME:
         return answer_bytes(stream, reader)
+    if call == TAKE:
+        return stream.take_message(reader.read_number())
+    if call == SEND:
+        return answer_send(stream, reader)
+    if call == OUTPUT:
+        return stream.put_out_cells(reader.read_number())
+    if call == TOLD:
+        return stream.tell()
     raise UnknownCall(f"no such call: {call}")
 
 

@@ -1,35 +1,6 @@
 """An open way: its due, and the message that is put together on it."""
 
-from cellstream.finder import BODY_SIZE
-from cellstream.sums import message_sum
-
-TRAILER_SIZE = 8
-MOST_CELLS = 1366
-
-
-def cells_for(length):
-    """How many cells a message of so many bytes takes."""
-    return (length + TRAILER_SIZE + BODY_SIZE - 1) // BODY_SIZE
-
-
-def number_of(octets):
-    """The whole number that these bytes are, the highest first."""
-    number = 0
-    for octet in octets:
-        number = number << 8 | octet
-    return number
-
-
-def message_in(octets, cell_count):
-    """The bytes of the message that so many cells hold, or None if it's wrong."""
-    if cell_count > MOST_CELLS:
-        return None
-    length = number_of(octets[-6:-4])
-    if length == 0 or cell_count != cells_for(length):
-        return None
-    if number_of(octets[-4:]) != message_sum(octets[:-4]):
-        return None
-    return octets[:length]
+from cellstream.messages import MOST_CELLS, message_in
 
 
 class Way:

@@ -2,6 +2,7 @@
 
 import zlib
 
+from cellstream.cells import answers
 from cellstream.stream import Stream
 
 IDLE_BODY = [0x6A] * 48
@@ -105,3 +106,21 @@ def counts(stream):
     """All that is counted and isn't 0."""
     names = ("used", "mended", "lost", "astray", "early", "right", "wrong", "dropped")
     return {name: getattr(stream, name) for name in names if getattr(stream, name)}
+
+
+def bytes_call(octets, now=0):
+    return [3, now, len(octets)] + octets
+
+
+def send_call(path, channel, octets):
+    return [5, path, channel, len(octets)] + octets
+
+
+def asked(*calls):
+    """The answer of each of these calls, all of them in one list."""
+    given = answers([number for call in calls for number in call])
+    split = []
+    while given:
+        split.append(given[1:1 + given[0]])
+        given = given[1 + given[0]:]
+    return split
